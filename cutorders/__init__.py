@@ -1,0 +1,1 @@
+"""Cut to orders: which orders are best filled out of which pieces of cable."""
