@@ -5,15 +5,26 @@ A set of wants is a whole number: bit k for want k.
 """
 
 
-# The pieces of one length, as they lie: of each from where, to where.
-def pieces_of(metres, faults):
+# The pieces between the faults of what lies from begins to ends, one behind another: of each from where, to where.
+def pieces_of(begins, ends, faults):
     pieces = []
-    start = 0
-    for stop in sorted(faults) + [metres]:
+    start = begins
+    for stop in sorted(faults) + [ends]:
         if stop > start:
             pieces.append((start, stop))
-        start = stop + 1
+        # A fault ahead of the beginning must not bring back what was cut off.
+        start = max(start, stop + 1)
     return pieces
+
+
+# How many metres there are ahead of the first fault.
+def good_at_first(begins, ends, faults):
+    return min([fault for fault in faults if fault >= begins] + [ends]) - begins
+
+
+# The longest piece's metres; 0 if there are no pieces.
+def longest_of(pieces):
+    return max([stop - start for start, stop in pieces], default=0)
 
 
 def rooms_of(pieces, kerf):
@@ -48,6 +59,11 @@ def fillable(rooms, needed):
     for room in rooms:
         can = [goes_with(chosen, needed, room, can) for chosen in range(len(needed))]
     return can
+
+
+# Whether some plan fills all of the chosen.
+def go_together(rooms, wants, chosen):
+    return fillable(rooms, totals([need for need, pays in wants]))[chosen]
 
 
 # What the best plan brings.

@@ -49,14 +49,16 @@ class BeforeBegin(unittest.TestCase):
              ("worth", 0), ("hurts", 0, 0), ("could", 0), ("together", 0), ("sell", 0, 0), ("trim", 0, 0),
              ("pieces",), ("longest",), ("left", 0), ("look", 0), ("sums",)]
     WRONG = [("length", 0), ("length", 10001), ("fault", 9, BIGGEST), ("order", 0, 0), ("order", 1, 10001),
-             ("cancel", BIGGEST), ("worth", BIGGEST), ("hurts", BIGGEST, BIGGEST), ("together", BIGGEST)]
+             ("cancel", BIGGEST), ("worth", BIGGEST), ("hurts", BIGGEST, BIGGEST), ("together", BIGGEST),
+             ("could", BIGGEST), ("sell", BIGGEST, BIGGEST), ("trim", BIGGEST, BIGGEST), ("left", BIGGEST),
+             ("look", BIGGEST)]
 
     def test_each_alone(self):
         for call in self.CALLS + self.WRONG:
             self.assertEqual(ask(call), [[-11]], call)
 
     def test_one_behind_another(self):
-        self.assertEqual(ask(*self.CALLS, *self.WRONG), [[-11]] * 27)
+        self.assertEqual(ask(*self.CALLS, *self.WRONG), [[-11]] * 32)
 
     def test_after_a_refused_begin(self):
         for call in self.CALLS + self.WRONG:

@@ -4,11 +4,17 @@ import random
 import unittest
 
 from cutorders.cable import answers
-from tests.helper import BIGGEST, ask, set_up, some_works, written
+from tests.helper import BIGGEST, ask, set_up, some_calls, written
 
 LINE = [0, 5, 1, 12, 1, 4, 2, 1, 0, 3, 5, 10, 3, 6, 20, 3, 9, 1, 4, 2, 5, 6, 7, 8, 0, 9, 0, 5, 9, 0, 12, 0, 11, 5]
 TOLD = [1, 0, 1, 0, 1, 1, 1, 2, 1, 0, 1, 1, 1, 2, 1, 2, 2, 0, 20, 3, 2, 0, 1, 2, 1, 1, 2, 0, 0, 2, 0, -10, 1, -22,
         1, -22, 2, 0, 20]
+# Calls 10 to 18, each answered and those that can be refused too.
+SALES = [0, 2, 1, 20, 1, 4, 2, 0, 9, 3, 5, 30, 3, 4, 7, 10, 0, 10, 2, 11, 3, 11, 4, 12, 0, 0, 12, 0, 0, 12, 1, 1, 13, 0,
+         3, 13, 0, 11, 14, 15, 16, 0, 16, 2, 17, 0, 17, 1, 18, 13, 0, 10, 13, 1, 4, 15, 14, 18]
+SOLD = [1, 0, 1, 0, 1, 1, 1, 3, 1, 0, 1, 1, 1, 1, 1, -2, 1, 1, 1, -22, 2, 0, 30, 1, -33, 1, -2, 1, 10, 1, -12, 7, 2, 0,
+        10, 20, 1, 0, 4, 1, 10, 4, 10, 10, 20, 9, 1, -2, 2, 4, 7, 1, -2, 5, 2, 1, 2, 5, 30, 1, 0, 1, 0, 1, -33, 1, 0, 5,
+        2, 1, 2, 5, 30]
 
 
 class Unchangeable(list):
@@ -24,6 +30,7 @@ class Unchangeable(list):
 class Lists(unittest.TestCase):
     def test_counts_ahead_of_answers(self):
         self.assertEqual(answers(list(LINE)), TOLD)
+        self.assertEqual(answers(list(SALES)), SOLD)
 
     def test_one_call(self):
         self.assertEqual(answers([0, 0]), [1, 0])
@@ -39,10 +46,11 @@ class Lists(unittest.TestCase):
             self.assertEqual(answers(written([call, ("begin", 10)])), [1, -11, 1, 0], call)
 
     def test_whole_numbers_alone(self):
-        told = answers(list(LINE))
-        self.assertIs(type(told), list)
-        for number in told:
-            self.assertIs(type(number), int)
+        for line in (LINE, SALES):
+            told = answers(list(line))
+            self.assertIs(type(told), list)
+            for number in told:
+                self.assertIs(type(number), int)
 
     def test_eighty_calls(self):
         calls = set_up(0, [(10000, [2500, 5000])] * 3, [(1, 1), (1, 1), (1, 1), (10000, 1)])
@@ -56,26 +64,27 @@ class Lists(unittest.TestCase):
 
 class NothingKept(unittest.TestCase):
     def test_what_is_handed_in_stays(self):
-        line = Unchangeable(LINE)
-        self.assertEqual(answers(line), TOLD)
-        self.assertEqual(line, LINE)
+        for handed, told in ((LINE, TOLD), (SALES, SOLD)):
+            line = Unchangeable(handed)
+            self.assertEqual(answers(line), told)
+            self.assertEqual(line, handed)
 
     def test_a_second_time(self):
-        line = list(LINE)
-        first = answers(line)
-        first_told = list(first)
-        first.append(7)
-        self.assertEqual(answers(line), first_told)
-        self.assertEqual(line, LINE)
+        for handed, told in ((LINE, TOLD), (SALES, SOLD)):
+            line = list(handed)
+            first = answers(line)
+            first.append(7)
+            self.assertEqual(answers(line), told)
+            self.assertEqual(line, handed)
 
     def test_each_time_is_new(self):
         source = random.Random(5)
         for turn in range(50):
-            line = written(set_up(*some_works(source)) + [("plan",), ("best",), ("fills",)])
+            line = written(some_calls(source))
             before = list(line)
             told = answers(line)
             self.assertEqual(answers([5, 1, 5, 6]), [1, -11, 1, -11, 1, -11])
-            self.assertEqual(answers([0, 0, 6, 8, 0]), [1, 0, 1, 0, 1, -2])
+            self.assertEqual(answers([0, 0, 6, 8, 0, 18]), [1, 0, 1, 0, 1, -2, 5, 0, 0, 0, 0, 0])
             self.assertEqual(answers(line), told)
             self.assertEqual(line, before)
 

@@ -1,9 +1,9 @@
-"""Point 2: best, plan, fills, worth, hurts."""
+"""Point 2: best, plan, fills, worth, hurts, could, together."""
 
 import random
 import unittest
 
-from tests.helper import BIGGEST, ask, last, most_of_all_cuts, set_up, slow_best, slow_plan, some_works
+from tests.helper import BIGGEST, ask, last, set_up, slow_best, slow_plan, some_works
 
 
 class Best(unittest.TestCase):
@@ -180,6 +180,87 @@ class Hurts(unittest.TestCase):
         self.assertEqual(told[len(calls):], [[0, 8], [0, 8], [0, 8], [2], [0, 0], [0, 0]])
 
 
+class Could(unittest.TestCase):
+    def could(self, kerf, lengths, metres):
+        return last(*set_up(kerf, lengths, [(metres, 0)]), ("could", 0))
+
+    def test_as_long_or_longer(self):
+        for length in (1, 2, 9, 9999):
+            for metres, told in ((1, [1]), (length, [1]), (length + 1, [0]), (10000, [0])):
+                self.assertEqual(self.could(10, [(length, [])], metres), told, (length, metres))
+        self.assertEqual(self.could(10, [(10000, [])], 10000), [1])
+
+    def test_some_piece(self):
+        for metres in range(1, 12):
+            self.assertEqual(self.could(0, [(5, [2]), (9, [8, 1]), (4, [])], metres), [1 if metres <= 6 else 0])
+            self.assertEqual(self.could(3, [(11, [5])], metres), [1 if metres <= 5 else 0])
+
+    def test_no_pieces(self):
+        self.assertEqual(self.could(0, [], 1), [0])
+        self.assertEqual(self.could(0, [(1, [0])], 1), [0])
+        self.assertEqual(self.could(0, [(2, [0, 1])], 1), [0])
+
+    def test_the_others_do_not_matter(self):
+        calls = set_up(0, [(5, [])], [(5, 9), (5, 0), (1, 0), (6, 10)])
+        told = ask(*calls, ("could", 0), ("could", 1), ("could", 2), ("could", 3), ("fills",))
+        self.assertEqual(told[len(calls):], [[1], [1], [1], [0], [1, 0]])
+
+    def test_no_such_order(self):
+        self.assertEqual(last(("begin", 0), ("length", 5), ("could", 0)), [-2])
+        calls = set_up(0, [(5, [])], [(1, 1), (6, 1)])
+        told = ask(*calls, ("could", 0), ("could", 1), ("could", 2), ("could", 3), ("could", BIGGEST))
+        self.assertEqual(told[len(calls):], [[1], [0], [-2], [-2], [-2]])
+
+
+class Together(unittest.TestCase):
+    def together(self, kerf, lengths, orders, *sets):
+        calls = [("together", chosen) for chosen in sets]
+        return [told for (told,) in ask(*set_up(kerf, lengths, orders), *calls)[-len(sets):]]
+
+    def test_each_set(self):
+        orders = [(6, 1), (5, 0), (4, 9), (7, 2)]
+        self.assertEqual(self.together(0, [(10, [])], orders, *range(16)),
+                         [1, 1, 1, 0, 1, 1, 1, 0, 1, 0, 0, 0, 0, 0, 0, 0])
+        self.assertEqual(self.together(1, [(10, [])], orders, *range(16)),
+                         [1, 1, 1, 0, 1, 0, 1, 0, 1, 0, 0, 0, 0, 0, 0, 0])
+        self.assertEqual(self.together(0, [(10, []), (12, [])], orders, *range(16)), [1] * 16)
+        self.assertEqual(self.together(0, [(10, []), (11, [])], orders, *range(16)), [1] * 15 + [0])
+
+    def test_none_of_them(self):
+        self.assertEqual(last(("begin", 0), ("together", 0)), [1])
+        self.assertEqual(self.together(0, [(1, [0])], [(1, 1)], 0, 1), [1, 0])
+        self.assertEqual(self.together(10, [], [(1, 1)] * 4, 0, 1, 8, 15), [1, 0, 0, 0])
+
+    def test_not_only_the_best_plan(self):
+        self.assertEqual(self.together(0, [(5, [])], [(5, 100), (2, 0), (3, 0)], 1, 6, 3, 5, 7), [1, 1, 0, 0, 0])
+
+    def test_just_as_long_as_two_orders_and_a_cut(self):
+        self.assertEqual(self.together(3, [(12, [])], [(4, 1), (5, 1)], 3), [1])
+        self.assertEqual(self.together(3, [(11, [])], [(4, 1), (5, 1)], 3), [0])
+        self.assertEqual(self.together(10, [(10000, [])], [(4000, 1), (5990, 1)], 3), [1])
+        self.assertEqual(self.together(10, [(10000, [])], [(4000, 1), (5991, 1)], 3), [0])
+
+    def test_a_cut_between_each_two(self):
+        self.assertEqual(self.together(1, [(7, [])], [(1, 1)] * 4, 15), [1])
+        self.assertEqual(self.together(1, [(6, [])], [(1, 1)] * 4, 15, 7, 14), [0, 1, 1])
+
+    def test_not_over_a_fault(self):
+        self.assertEqual(self.together(0, [(9, [4])], [(4, 1), (4, 1), (5, 1)], 3, 4, 5), [1, 0, 0])
+
+    def test_one_that_there_is_not(self):
+        for count in range(5):
+            orders = [(1, 1)] * count
+            inside = [1 << o for o in range(count)] + [(1 << count) - 1]
+            self.assertEqual(self.together(0, [(9, [])], orders, *inside), [1] * len(inside))
+            above = [1 << o for o in range(count, 32)] + [(1 << count) + 1, (1 << count + 1) - 1, BIGGEST, BIGGEST - 15]
+            self.assertEqual(self.together(0, [(9, [])], orders, *above), [-22] * len(above))
+
+    def test_behind_a_cancel(self):
+        calls = set_up(0, [(9, [])], [(4, 1), (9, 1), (5, 1)])
+        told = ask(*calls, ("together", 7), ("together", 5), ("cancel", 1), ("together", 3), ("together", 4))
+        self.assertEqual(told[len(calls):], [[0], [1], [2], [1], [-22]])
+
+
 class AgainstTheWords(unittest.TestCase):
     def test_plans(self):
         source = random.Random(1)
@@ -207,25 +288,6 @@ class AgainstTheWords(unittest.TestCase):
                 hurt = best - slow_best(kerf, faulty, orders)
                 self.assertEqual(last(*calls, ("hurts", number, metre)), [0, hurt],
                                  (kerf, lengths, orders, number, metre))
-
-    def test_no_cuts_whatever_bring_more(self):
-        source = random.Random(3)
-        for turn in range(100):
-            kerf, lengths, orders = some_works(source)
-            lengths = lengths[:2]
-            orders = orders[:3]
-            told = last(*set_up(kerf, lengths, orders), ("best",))
-            self.assertEqual(told, [0, most_of_all_cuts(kerf, lengths, orders)], (kerf, lengths, orders))
-
-    def test_an_order_more_never_brings_less(self):
-        source = random.Random(4)
-        for turn in range(100):
-            kerf, lengths, orders = some_works(source)
-            brought = 0
-            for count in range(len(orders) + 1):
-                told = last(*set_up(kerf, lengths, orders[:count]), ("best",))
-                self.assertGreaterEqual(told[1], brought)
-                brought = told[1]
 
 
 if __name__ == "__main__":
